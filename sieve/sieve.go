@@ -6,8 +6,11 @@ import (
 	"iter"
 
 	"sieve/api"
+	"sieve/nodes"
 	"sieve/rules"
 )
+
+const maxKind = 9 // of a fact
 
 // Plain writes rules in their plain form (P4).
 func Plain(text string) (string, int, api.Errno) {
@@ -33,22 +36,70 @@ func refusal(err error) (int, api.Errno) {
 }
 
 // Net knows what matches.
-type Net struct{}
+type Net struct {
+	nodes *nodes.Net
+	facts []*nodes.Fact // those that are there, the lesser number first
+	given int           // the number that was given last
+}
 
 // New makes a net of rules (P5).
-func New(text string) (*Net, api.Errno) { return nil, api.OK }
+func New(text string) (*Net, api.Errno) {
+	list, err := rules.Parse(text)
+	if err != nil {
+		_, errno := refusal(err)
+		return nil, errno
+	}
+	return &Net{nodes: nodes.New(list)}, api.OK
+}
 
 // Add adds a fact (P6).
-func (n *Net) Add(f api.Fact) (int, api.Errno) { return 0, api.OK }
+func (n *Net) Add(f api.Fact) (int, api.Errno) {
+	if !isFact(f) {
+		return 0, api.ErrFact
+	}
+	if len(n.facts) >= api.MaxFacts {
+		return 0, api.ErrFull
+	}
+	n.given++
+	added := &nodes.Fact{Fact: copyOf(f), ID: n.given}
+	n.facts = append(n.facts, added)
+	n.nodes.Add(added)
+	return added.ID, api.OK
+}
+
+func isFact(f api.Fact) bool {
+	if f.Kind < 0 || f.Kind > maxKind || len(f.Values) > api.MaxTerms {
+		return false
+	}
+	for _, v := range f.Values {
+		if v < -api.MaxNumber || v > api.MaxNumber {
+			return false
+		}
+	}
+	return true
+}
+
+// copyOf appends to nil, because a clone of an empty list would still point into it.
+func copyOf(f api.Fact) api.Fact {
+	return api.Fact{Kind: f.Kind, Values: append([]int(nil), f.Values...)}
+}
 
 // Remove takes a fact away (P6).
 func (n *Net) Remove(id int) api.Errno { return api.OK }
 
 // Facts tells the facts (P6).
-func (n *Net) Facts() ([]int, []api.Fact) { return nil, nil }
+func (n *Net) Facts() ([]int, []api.Fact) {
+	var ids []int
+	var list []api.Fact
+	for _, f := range n.facts {
+		ids = append(ids, f.ID)
+		list = append(list, copyOf(f.Fact))
+	}
+	return ids, list
+}
 
 // Matches tells all matches (P7).
-func (n *Net) Matches() []api.Match { return nil }
+func (n *Net) Matches() []api.Match { return n.nodes.Matches() }
 
 // All goes through the matches (P8).
 func (n *Net) All() iter.Seq[api.Match] { return func(yield func(api.Match) bool) {} }

@@ -1,0 +1,141 @@
+package nodes
+
+import (
+	"slices"
+
+	"sieve/api"
+)
+
+// Fact is a fact that is there, with its number.
+type Fact struct {
+	api.Fact
+	ID int
+}
+
+// token is what matched so far: a fact for each condition that is not negated.
+// How many there are, the node knows at which it is.
+type token [api.MaxConds]*Fact
+
+// node is a step on the way from the first condition of a rule to its matches.
+type node interface {
+	// arrive: what matched ahead of the node has come to be.
+	arrive(t token)
+	// forget: what matched ahead of the node and is gone, is so no longer.
+	forget(gone func(t token) bool)
+}
+
+// memory is what all nodes have: they remember what has arrived.
+type memory struct {
+	tokens []token
+}
+
+func (m *memory) keep(t token) { m.tokens = append(m.tokens, t) }
+
+func (m *memory) forget(gone func(t token) bool) {
+	m.tokens = slices.DeleteFunc(m.tokens, gone)
+}
+
+// step is what the nodes of conditions have. It remembers the facts that fit its
+// condition alone too, so that what arrives is held against no other.
+type step struct {
+	cond
+	memory
+	facts []*Fact
+	next  node
+}
+
+// admit remembers a new fact, if it fits.
+func (s *step) admit(f *Fact) bool {
+	if !s.fitsAlone(f) {
+		return false
+	}
+	s.facts = append(s.facts, f)
+	return true
+}
+
+// forget: what is gone here is gone behind this node too.
+func (s *step) forget(gone func(t token) bool) {
+	s.memory.forget(gone)
+	s.next.forget(gone)
+}
+
+// join is the node of a condition that is not negated: it joins a fact to what arrives.
+type join struct {
+	step
+	place int // of that fact in a token
+}
+
+func (j *join) arrive(t token) {
+	j.keep(t)
+	for _, f := range j.facts {
+		j.pair(t, f)
+	}
+}
+
+// extend joins a new fact to what has arrived until now.
+func (j *join) extend(f *Fact) {
+	if !j.admit(f) {
+		return
+	}
+	for _, t := range j.tokens {
+		j.pair(t, f)
+	}
+}
+
+func (j *join) pair(t token, f *Fact) {
+	if j.fitsWith(t, f) {
+		t[j.place] = f
+		j.next.arrive(t)
+	}
+}
+
+// holdBack is the node of a negated condition: it lets pass what no fact stands against.
+type holdBack struct {
+	step
+}
+
+func (h *holdBack) arrive(t token) {
+	h.keep(t)
+	if !h.blocked(t) {
+		h.next.arrive(t)
+	}
+}
+
+func (h *holdBack) blocked(t token) bool {
+	return slices.ContainsFunc(h.facts, func(f *Fact) bool { return h.fitsWith(t, f) })
+}
+
+// block takes back what had passed and meets a new fact. What lies behind begins
+// with the same facts, so it can be asked there, and no list of it is needed.
+func (h *holdBack) block(f *Fact) {
+	if h.admit(f) {
+		h.next.forget(func(t token) bool { return h.fitsWith(t, f) })
+	}
+}
+
+// last is the node behind all conditions: what arrives there is a match.
+type last struct {
+	memory
+	rule  int
+	joins int // how many facts a match has
+}
+
+func (l *last) arrive(t token) { l.keep(t) }
+
+// matches tells them in their order.
+func (l *last) matches() []api.Match {
+	list := make([]api.Match, 0, len(l.tokens))
+	for _, t := range l.tokens {
+		list = append(list, api.Match{Rule: l.rule, Facts: t.numbers(l.joins)})
+	}
+	slices.SortFunc(list, func(a, b api.Match) int { return slices.Compare(a.Facts, b.Facts) })
+	return list
+}
+
+func (t token) numbers(count int) []int {
+	list := make([]int, count)
+	for i := range list {
+		list[i] = t[i].ID
+	}
+	return list
+}
