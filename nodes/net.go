@@ -29,6 +29,13 @@ func (n *Net) Add(f *Fact) {
 	}
 }
 
+// Remove lets the net forget a fact that it was told by Add.
+func (n *Net) Remove(f *Fact) {
+	for _, c := range n.chains {
+		c.remove(f)
+	}
+}
+
 // Matches tells all matches, in their order.
 func (n *Net) Matches() []api.Match {
 	var list []api.Match
@@ -38,17 +45,37 @@ func (n *Net) Matches() []api.Match {
 	return list
 }
 
+// Fire tells the newest match that has not fired, of those alike the first in
+// their order, and false if there is none. It has fired then.
+func (n *Net) Fire() (api.Match, bool) {
+	var from *last
+	var newest token
+	for _, c := range n.chains {
+		t, waits := c.end.waiting.next()
+		// Of two rules' that are alike, the one of the rule ahead stays.
+		if waits && (from == nil || compareAges(t, newest) > 0) {
+			from, newest = c.end, t
+		}
+	}
+	if from == nil {
+		return api.Match{}, false
+	}
+	from.waiting.take()
+	return from.match(newest), true
+}
+
 // chain is the nodes of a rule: of its conditions, the hindmost first, and the last one.
 type chain struct {
 	nodes []node
+	first node // of the first condition
 	end   *last
 }
 
 func newChain(rule int, r rules.Rule) *chain {
 	c := &chain{end: &last{rule: rule}}
-	first := c.build(r.Conds, nil)
+	c.first = c.build(r.Conds, nil)
 	// Ahead of the first condition nothing is asked: there, no facts are a match.
-	first.arrive(token{})
+	c.first.arrive(token{})
 	return c
 }
 
@@ -84,6 +111,21 @@ func (c *chain) add(f *Fact) {
 			n.extend(f)
 		case *holdBack:
 			n.block(f)
+		}
+	}
+}
+
+// remove takes back what a fact that is gone was joined to, and tells it to each
+// node once. From behind, so that what a node lets pass then finds no node that
+// still knows the fact.
+func (c *chain) remove(f *Fact) {
+	c.first.forget(func(t token) bool { return slices.Contains(t[:], f) })
+	for _, n := range c.nodes {
+		switch n := n.(type) {
+		case *join:
+			n.dismiss(f)
+		case *holdBack:
+			n.release(f)
 		}
 	}
 }

@@ -53,6 +53,16 @@ func (s *step) admit(f *Fact) bool {
 	return true
 }
 
+// dismiss forgets a fact that is gone, if it fitted.
+func (s *step) dismiss(f *Fact) bool {
+	at := slices.Index(s.facts, f)
+	if at < 0 {
+		return false
+	}
+	s.facts = slices.Delete(s.facts, at, at+1)
+	return true
+}
+
 // forget: what is gone here is gone behind this node too.
 func (s *step) forget(gone func(t token) bool) {
 	s.memory.forget(gone)
@@ -113,29 +123,59 @@ func (h *holdBack) block(f *Fact) {
 	}
 }
 
-// last is the node behind all conditions: what arrives there is a match.
-type last struct {
-	memory
-	rule  int
-	joins int // how many facts a match has
+// release lets pass what a fact that is gone alone stood against.
+func (h *holdBack) release(f *Fact) {
+	if !h.dismiss(f) {
+		return
+	}
+	for _, t := range h.tokens {
+		if h.fitsWith(t, f) && !h.blocked(t) {
+			h.next.arrive(t)
+		}
+	}
 }
 
-func (l *last) arrive(t token) { l.keep(t) }
+// last is the node behind all conditions: what arrives there is a match. Those
+// that it remembers and that wait no longer have fired.
+type last struct {
+	memory
+	waiting agenda
+	rule    int
+	joins   int // how many facts a match has
+}
+
+func (l *last) arrive(t token) {
+	l.keep(t)
+	l.waiting.put(t)
+}
+
+func (l *last) forget(gone func(t token) bool) {
+	l.memory.forget(gone)
+	l.waiting.forget(gone)
+}
 
 // matches tells them in their order.
 func (l *last) matches() []api.Match {
 	list := make([]api.Match, 0, len(l.tokens))
 	for _, t := range l.tokens {
-		list = append(list, api.Match{Rule: l.rule, Facts: t.numbers(l.joins)})
+		list = append(list, l.match(t))
 	}
 	slices.SortFunc(list, func(a, b api.Match) int { return slices.Compare(a.Facts, b.Facts) })
 	return list
 }
 
-func (t token) numbers(count int) []int {
-	list := make([]int, count)
-	for i := range list {
-		list[i] = t[i].ID
+func (l *last) match(t token) api.Match {
+	numbers := t.numbers()
+	return api.Match{Rule: l.rule, Facts: append([]int(nil), numbers[:l.joins]...)}
+}
+
+// numbers are those of the token's facts, 0 where it has none.
+func (t token) numbers() [api.MaxConds]int {
+	var list [api.MaxConds]int
+	for i, f := range t {
+		if f != nil {
+			list[i] = f.ID
+		}
 	}
 	return list
 }

@@ -89,10 +89,69 @@ func TestNoMatchIsFoundTwice(t *testing.T) {
 	wantArrived(t, n, []int{1, 2, 4, 8, 16}, []int{2, 2, 2, 2})
 }
 
+// What a fact brought goes with it, at each node, and what it held back goes on.
+func TestNodesForgetWhatIsGone(t *testing.T) {
+	n := netOf(t, "a:(1 x)(2 x y)!(3 y)(4 y);")
+	facts := []*Fact{fact(1, 4, 6), fact(2, 2, 5, 6), fact(3, 1, 5), fact(4, 2, 5, 7), fact(5, 3, 6)}
+	for _, f := range facts {
+		n.Add(f)
+	}
+	n.Remove(facts[4])
+	wantArrived(t, n, []int{1, 1, 2, 2, 1}, []int{1, 2, 0, 1})
+	n.Remove(facts[3])
+	wantArrived(t, n, []int{1, 1, 1, 1, 1}, []int{1, 1, 0, 1})
+	n.Remove(facts[1])
+	wantArrived(t, n, []int{1, 1, 0, 0, 0}, []int{1, 0, 0, 1})
+	n.Remove(facts[2])
+	wantArrived(t, n, []int{1, 0, 0, 0, 0}, []int{0, 0, 0, 1})
+	n.Remove(facts[0])
+	wantArrived(t, n, []int{1, 0, 0, 0, 0}, []int{0, 0, 0, 0})
+}
+
+// A fact that goes while it stands both for a condition and against one leaves nothing behind.
+func TestFactOfSeveralNodesGoesFromAll(t *testing.T) {
+	for _, text := range []string{"a:(1)!(1)(1);", "a:(1)(1)!(1)!(1);", "a:(2)!(1)(1)(1);", "a:(2)(1)!(1)(2);"} {
+		n := netOf(t, text)
+		other, f := fact(1, 2), fact(2, 1)
+		n.Add(other)
+		before, known := arrived(n.chains[0])
+		n.Add(f)
+		n.Remove(f)
+		wantArrived(t, n, before, known)
+	}
+}
+
+// What fires waits no longer, but is remembered as a match.
+func TestAgendaHoldsWhatHasNotFired(t *testing.T) {
+	n := netOf(t, "a:(1)(1);")
+	one, two := fact(1, 1), fact(2, 1)
+	n.Add(one)
+	n.Add(two)
+	end := n.chains[0].end
+	for left := 3; left >= 0; left-- {
+		if _, found := n.Fire(); !found {
+			t.Fatal("nothing fires")
+		}
+		if len(end.waiting.tokens) != left || len(end.tokens) != 4 {
+			t.Errorf("%d wait, %d match, want %d, 4", len(end.waiting.tokens), len(end.tokens), left)
+		}
+	}
+	if m, found := n.Fire(); found || m.Rule != 0 || m.Facts != nil {
+		t.Errorf("Fire = %v, %t", m, found)
+	}
+	n.Remove(two)
+	if len(end.waiting.tokens) != 0 || len(end.tokens) != 1 {
+		t.Errorf("%d wait, %d match, want 0, 1", len(end.waiting.tokens), len(end.tokens))
+	}
+}
+
 func TestNoRulesNoMatches(t *testing.T) {
 	n := New(nil)
 	n.Add(fact(1, 1))
 	if got := n.Matches(); len(got) != 0 {
 		t.Errorf("Matches = %v", got)
+	}
+	if m, found := n.Fire(); found {
+		t.Errorf("Fire = %v", m)
 	}
 }

@@ -38,7 +38,7 @@ func addAll(t *testing.T, net *sieve.Net, facts ...api.Fact) {
 	}
 }
 
-// P7: the document's example, as far as facts come.
+// P7: the document's example, as far as facts come (the rest stands with P9).
 func TestP7Example(t *testing.T) {
 	net := newNet(t, "p:(1 x y)(2 y);q:(1 x x)!(2 x);")
 	wantMatches(t, net)

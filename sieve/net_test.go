@@ -32,14 +32,24 @@ func wantAdd(t *testing.T, net *sieve.Net, f api.Fact, id int, want api.Errno) {
 // wantFacts: these are all, their numbers from 1 on.
 func wantFacts(t *testing.T, net *sieve.Net, want ...api.Fact) {
 	t.Helper()
+	there := holding{facts: want}
+	for i := range want {
+		there.ids = append(there.ids, i+1)
+	}
+	wantHolding(t, net, there)
+}
+
+// wantHolding: these are all, by these numbers.
+func wantHolding(t *testing.T, net *sieve.Net, want holding) {
+	t.Helper()
 	ids, facts := net.Facts()
-	if len(ids) != len(want) || len(facts) != len(want) {
-		t.Errorf("Facts = %v, %v, want %v", ids, facts, want)
+	if !slices.Equal(ids, want.ids) || len(facts) != len(want.facts) {
+		t.Errorf("Facts = %v, %v, want %v, %v", ids, facts, want.ids, want.facts)
 		return
 	}
 	for i, f := range facts {
-		if ids[i] != i+1 || f.Kind != want[i].Kind || !slices.Equal(f.Values, want[i].Values) {
-			t.Errorf("Facts: at %d stands %d, %v, want %v", i, ids[i], f, want[i])
+		if f.Kind != want.facts[i].Kind || !slices.Equal(f.Values, want.facts[i].Values) {
+			t.Errorf("Facts: at %d stands %d, %v, want %v", i, ids[i], f, want.facts[i])
 		}
 	}
 }

@@ -4,6 +4,7 @@ package sieve
 import (
 	"errors"
 	"iter"
+	"slices"
 
 	"sieve/api"
 	"sieve/nodes"
@@ -85,7 +86,16 @@ func copyOf(f api.Fact) api.Fact {
 }
 
 // Remove takes a fact away (P6).
-func (n *Net) Remove(id int) api.Errno { return api.OK }
+func (n *Net) Remove(id int) api.Errno {
+	at := slices.IndexFunc(n.facts, func(f *nodes.Fact) bool { return f.ID == id })
+	if at < 0 {
+		return api.ErrNone
+	}
+	gone := n.facts[at]
+	n.facts = slices.Delete(n.facts, at, at+1)
+	n.nodes.Remove(gone)
+	return api.OK
+}
 
 // Facts tells the facts (P6).
 func (n *Net) Facts() ([]int, []api.Fact) {
@@ -105,4 +115,10 @@ func (n *Net) Matches() []api.Match { return n.nodes.Matches() }
 func (n *Net) All() iter.Seq[api.Match] { return func(yield func(api.Match) bool) {} }
 
 // Fire tells what is to fire next (P9).
-func (n *Net) Fire() (api.Match, api.Errno) { return api.Match{}, api.OK }
+func (n *Net) Fire() (api.Match, api.Errno) {
+	fired, found := n.nodes.Fire()
+	if !found {
+		return api.Match{}, api.ErrNone
+	}
+	return fired, api.OK
+}
