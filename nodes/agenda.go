@@ -40,8 +40,7 @@ func (a *agenda) Less(i, k int) bool {
 	if age := compareAges(t, other); age != 0 {
 		return age > 0
 	}
-	numbers, others := t.numbers(), other.numbers()
-	return slices.Compare(numbers[:], others[:]) < 0
+	return compareFacts(t, other) < 0
 }
 
 // Swap lets two change places.

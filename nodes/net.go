@@ -2,6 +2,7 @@
 package nodes
 
 import (
+	"iter"
 	"slices"
 
 	"sieve/api"
@@ -37,12 +38,24 @@ func (n *Net) Remove(f *Fact) {
 }
 
 // Matches tells all matches, in their order.
-func (n *Net) Matches() []api.Match {
-	var list []api.Match
-	for _, c := range n.chains {
-		list = append(list, c.end.matches()...)
+func (n *Net) Matches() []api.Match { return slices.Collect(n.All()) }
+
+// All goes through all matches, in their order, as they are when that is begun.
+func (n *Net) All() iter.Seq[api.Match] {
+	return func(yield func(api.Match) bool) {
+		// Those of all rules ahead of the first yield: in it, the net may change.
+		var all []iter.Seq[api.Match]
+		for _, c := range n.chains {
+			all = append(all, c.end.now())
+		}
+		for _, ofRule := range all {
+			for m := range ofRule {
+				if !yield(m) {
+					return
+				}
+			}
+		}
 	}
-	return list
 }
 
 // Fire tells the newest match that has not fired, of those alike the first in

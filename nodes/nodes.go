@@ -1,6 +1,7 @@
 package nodes
 
 import (
+	"iter"
 	"slices"
 
 	"sieve/api"
@@ -154,14 +155,19 @@ func (l *last) forget(gone func(t token) bool) {
 	l.waiting.forget(gone)
 }
 
-// matches tells them in their order.
-func (l *last) matches() []api.Match {
-	list := make([]api.Match, 0, len(l.tokens))
-	for _, t := range l.tokens {
-		list = append(list, l.match(t))
+// now answers an iterator over the matches of this moment, in their order: what
+// the node learns later does not reach it. Each match is made when its turn
+// comes, so that leaving early spares the others.
+func (l *last) now() iter.Seq[api.Match] {
+	tokens := slices.Clone(l.tokens)
+	slices.SortFunc(tokens, compareFacts)
+	return func(yield func(api.Match) bool) {
+		for _, t := range tokens {
+			if !yield(l.match(t)) {
+				return
+			}
+		}
 	}
-	slices.SortFunc(list, func(a, b api.Match) int { return slices.Compare(a.Facts, b.Facts) })
-	return list
 }
 
 func (l *last) match(t token) api.Match {
@@ -178,4 +184,10 @@ func (t token) numbers() [api.MaxConds]int {
 		}
 	}
 	return list
+}
+
+// compareFacts answers less than 0 if t stands ahead of the other in their order.
+func compareFacts(t, other token) int {
+	numbers, others := t.numbers(), other.numbers()
+	return slices.Compare(numbers[:], others[:])
 }

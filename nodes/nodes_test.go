@@ -155,3 +155,20 @@ func TestNoRulesNoMatches(t *testing.T) {
 		t.Errorf("Fire = %v", m)
 	}
 }
+
+// A match is made when its turn comes, so who leaves early does not pay for the rest.
+func TestLeavingEarlySparesTheRest(t *testing.T) {
+	n := netOf(t, "a:(1)(1)(1);")
+	for id := 1; id <= 10; id++ {
+		n.Add(fact(id, 1))
+	}
+	all := n.All()
+	made := testing.AllocsPerRun(10, func() {
+		for range all {
+			break
+		}
+	})
+	if made > 20 {
+		t.Errorf("the first of 1000 matches takes %v pieces of memory", made)
+	}
+}

@@ -226,10 +226,7 @@ func TestP2FireKeepsApart(t *testing.T) {
 
 // P1: the most matches that there can be all fire, in their turn.
 func TestP1FireMostMatches(t *testing.T) {
-	net := newNet(t, strings.Repeat("a:(1)(1)(1)(1);", 8))
-	for range api.MaxFacts {
-		addAll(t, net, fact(1))
-	}
+	net := netOfMostMatches(t)
 	ahead := api.Match{Facts: []int{17, 17, 17, 17}}
 	for range 8 * api.MaxFacts * api.MaxFacts * api.MaxFacts * api.MaxFacts {
 		fired, errno := net.Fire()
@@ -291,26 +288,32 @@ func (m *model) fire() string {
 	return told
 }
 
+// someCall makes a call on the net, and wants of it what the model answers.
+func (m *model) someCall(t *testing.T, r *rand.Rand, net *sieve.Net) {
+	t.Helper()
+	switch what := r.IntN(10); {
+	case what < 4 && len(m.ids) < 8:
+		f := someFact(r)
+		m.add(f)
+		wantAdd(t, net, f, m.given, api.OK)
+	case what < 7 && len(m.ids) > 0:
+		at := r.IntN(len(m.ids))
+		wantRemove(t, net, m.ids[at], api.OK)
+		m.remove(at)
+	default:
+		wantFire(t, net, m.fire())
+	}
+}
+
 // P6, P7, P9: after each call, the net holds, knows and fires what a search of all facts finds.
 func TestP9AgainstSearch(t *testing.T) {
 	r := rand.New(rand.NewPCG(3, 4))
 	for range 8000 {
-		m := model{rules: someRules(r)}
+		m := &model{rules: someRules(r)}
 		text := textOf(m.rules)
 		net := newNet(t, text)
 		for range 40 {
-			switch what := r.IntN(10); {
-			case what < 4 && len(m.ids) < 8:
-				f := someFact(r)
-				m.add(f)
-				wantAdd(t, net, f, m.given, api.OK)
-			case what < 7 && len(m.ids) > 0:
-				at := r.IntN(len(m.ids))
-				wantRemove(t, net, m.ids[at], api.OK)
-				m.remove(at)
-			default:
-				wantFire(t, net, m.fire())
-			}
+			m.someCall(t, r, net)
 			if got, want := tell(net.Matches()), tell(m.matches(m.rules)); !slices.Equal(got, want) {
 				t.Errorf("Matches = %v, want %v", got, want)
 			}

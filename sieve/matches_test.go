@@ -218,12 +218,19 @@ func TestP2NetsKeepApart(t *testing.T) {
 	}
 }
 
-// P1: the most matches that there can be, and the most that one fact can take back.
-func TestP1MostMatches(t *testing.T) {
+// netOfMostMatches: more there can't be, by the bounds of package api.
+func netOfMostMatches(t *testing.T) *sieve.Net {
+	t.Helper()
 	net := newNet(t, strings.Repeat("a:(1)(1)(1)(1);", 8))
 	for range api.MaxFacts {
 		addAll(t, net, fact(1))
 	}
+	return net
+}
+
+// P1: the most matches that there can be, and the most that one fact can take back.
+func TestP1MostMatches(t *testing.T) {
+	net := netOfMostMatches(t)
 	const each = api.MaxFacts * api.MaxFacts * api.MaxFacts * api.MaxFacts
 	list := net.Matches()
 	if len(list) != 8*each {

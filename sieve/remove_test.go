@@ -168,10 +168,7 @@ func TestP2RemoveChangesNoAnswer(t *testing.T) {
 
 // P1: the most matches that one fact can take with it, and the most that it can let come to be.
 func TestP1RemoveFromMostMatches(t *testing.T) {
-	net := newNet(t, strings.Repeat("a:(1)(1)(1)(1);", 8))
-	for range api.MaxFacts {
-		addAll(t, net, fact(1))
-	}
+	net := netOfMostMatches(t)
 	for left := api.MaxFacts - 1; left >= 0; left-- {
 		removeAll(t, net, api.MaxFacts-left)
 		if got, want := len(net.Matches()), 8*left*left*left*left; got != want {

@@ -112,7 +112,7 @@ func (n *Net) Facts() ([]int, []api.Fact) {
 func (n *Net) Matches() []api.Match { return n.nodes.Matches() }
 
 // All goes through the matches (P8).
-func (n *Net) All() iter.Seq[api.Match] { return func(yield func(api.Match) bool) {} }
+func (n *Net) All() iter.Seq[api.Match] { return n.nodes.All() }
 
 // Fire tells what is to fire next (P9).
 func (n *Net) Fire() (api.Match, api.Errno) {
